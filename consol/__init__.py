@@ -1,0 +1,1 @@
+"""Consol: bonds that quote one another, and the money that follows."""
