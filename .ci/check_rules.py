@@ -15,7 +15,7 @@ from pathlib import Path
 LIBRARY = {
     "math": {"gcd", "lcm", "isqrt", "comb", "perm", "factorial"},
     "heapq": {"heappush", "heappop", "heapify", "heapreplace", "heappushpop"},
-    "itertools": {"product", "combinations", "permutations", "chain", "accumulate", "pairwise", "islice", "zip_longest"},
+    "itertools": set("product combinations permutations chain accumulate pairwise islice zip_longest".split()),
     "collections": {"defaultdict"},
 }
 BUILTINS = set(

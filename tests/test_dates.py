@@ -140,7 +140,7 @@ class AddMonthsTest(unittest.TestCase):
             self.assertEqual(reached, sorted(reached))
 
     def test_below_zero(self):
-        for day, count in [(-1, 0), (0, -1), (-1, -1), (100, -12), (-100, 12)]:
+        for day, count in [(-1, 0), (0, -1), (-1, -1), (100, -12), (-100, 12), (400, -1), (FAR, -5)]:
             with self.assertRaises(InvalidDay):
                 add_months(day, count)
 

@@ -186,6 +186,13 @@ class TextTest(unittest.TestCase):
                 read_fraction(text)
             self.assertEqual(caught.exception.text, text)
 
+    def test_single_characters(self):
+        for code in range(256):
+            for text in (chr(code), f"{chr(code)}5", f"5{chr(code)}", f"2{chr(code)}5"):
+                if text not in ("-5", "2/5") and not (text.isascii() and text.isdigit() and str(int(text)) == text):
+                    with self.subTest(text), self.assertRaises(InvalidNumber):
+                        read_fraction(text)
+
     def test_very_long_texts(self):
         for text in ["9" * 5000, "1/" + "9" * 5000, "-" + "7" * 20000]:
             with self.assertRaises(InvalidNumber) as caught:
