@@ -155,6 +155,8 @@ class Checker:
                 bound.append(part.arg)
             if isinstance(part, ast.FunctionDef) and part is not node:
                 bound.append(part.name)
+            if isinstance(part, ast.ExceptHandler) and part.name:
+                bound.append(part.name)
         for name in set(bound):
             if name in fixed:
                 self.report(path, node.lineno, "L15", f"{name} is a class or an import of the file")

@@ -17,6 +17,7 @@ SIGNS = {
 }
 OPERATORS = ("add", "subtract", "multiply", "less", "atmost", "equal", "and", "or", "not", "if")
 TIMED = ("ever", "always", "before")
+PLAIN = ("number", "money", "percent", "fact", "rate", "name", "true", "false")
 LONGEST_TIME = 400
 
 
@@ -25,6 +26,16 @@ def is_name(word):
     if len(word) < 1 or len(word) > MOST_LETTERS or word in KEY_WORDS:
         return False
     return all(letter in LETTERS for letter in word)
+
+
+def first_part(expression):
+    """Returns the index of the first item that is an expression itself, or the length if there is none.
+
+    All items behind it are expressions, too.
+    """
+    if expression[0] in PLAIN:
+        return len(expression)
+    return 2 if expression[0] in TIMED else 1
 
 
 def write_expression(expression):

@@ -21,11 +21,16 @@ def solve(rows, sides):
     if len(sides) != len(rows):
         raise InvalidSystem("not as many sides as rows")
     _check_size(rows, columns)
+    return solution(rows, sides, columns)
+
+
+def solution(rows, sides, columns):
+    """Returns the answer of solve for a system of any size."""
     table, pivots, rest = _echelon(_beside(rows, sides), columns)
     if any(row[columns] != 0 for row in rest):
         return ("none", _factors(rows, sides, columns))
     values = _spread(_ending(table, pivots, columns), pivots, columns)
-    nothing = _kernel_list(table, pivots, columns)
+    nothing = _first_kernel(table, pivots, columns)
     if nothing is None:
         return ("one", values)
     return ("several", values, nothing)
@@ -43,8 +48,13 @@ def kernel(rows, columns):
     """Returns the kernel list, or None if every column is a pivot."""
     _check_lengths(rows, columns)
     _check_size(rows, columns)
+    return kernel_list(rows, columns)
+
+
+def kernel_list(rows, columns):
+    """Returns the answer of kernel for rows of any number and length."""
     table, pivots, _ = _echelon([_whole(row) for row in rows], columns)
-    return _kernel_list(table, pivots, columns)
+    return _first_kernel(table, pivots, columns)
 
 
 def solves(rows, sides, values):
@@ -159,7 +169,7 @@ def _spread(values, pivots, columns):
     return spread
 
 
-def _kernel_list(table, pivots, columns):
+def _first_kernel(table, pivots, columns):
     for column in range(columns):
         if column not in pivots:
             factors = [opposite(value) for value in _ending(table, pivots, column)]
