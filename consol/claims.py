@@ -94,9 +94,11 @@ def _is_money(amount):
 
 
 def _is_debt(debt, issuers):
-    debtor, rank, creditor, amount = debt
-    if not 0 <= debtor < issuers or not 0 <= rank < RANKS:
+    if not isinstance(debt, tuple) or len(debt) != 4:
         return False
-    if creditor is not None and (creditor == debtor or not 0 <= creditor < issuers):
+    debtor, rank, creditor, amount = debt
+    if debtor not in range(issuers) or rank not in range(RANKS):
+        return False
+    if creditor is not None and (creditor == debtor or creditor not in range(issuers)):
         return False
     return _is_money(amount)

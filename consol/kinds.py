@@ -9,7 +9,6 @@ from consol.grammar import TIMED, first_part
 KINDS_OF_WORDS = {
     "number": "count", "money": "money", "percent": "rate", "rate": "rate", "true": "truth", "false": "truth",
 }
-SAME_KIND_WORDS = ("add", "subtract", "min", "max")
 COMPARING = ("less", "atmost", "equal")
 TRUTH_WORDS = ("not", "and", "or")
 PRODUCTS = {("rate", "money"): "money", ("money", "rate"): "money", ("rate", "rate"): "rate"}

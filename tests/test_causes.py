@@ -162,6 +162,8 @@ class Rows(unittest.TestCase):
         self.check(claims, [[0], [0, 4, 1], [3, 2], [3], [0, 4], None])
         claims = claims_of([0] * 4, [(0, 0, 1, 1), (0, 0, 2, 1), (1, 0, 3, 1), (2, 0, 3, 1), (3, 0, None, 2)])
         self.check(claims, [[0], [0, 1], [0, 2], [0, 1, 3]])
+        claims = claims_of([0] * 4, [(0, 0, 2, 1), (0, 0, 1, 1), (2, 0, 3, 1), (1, 0, 3, 1), (3, 0, None, 2)])
+        self.check(claims, [[0], [0, 1], [0, 2], [0, 1, 3]])
 
     def test_only_hurt_ones_are_led_to(self):
         claims = claims_of([1, 0, 0, 0], [(0, 0, 1, 1), (0, 1, 2, 1), (1, 0, 3, 1), (2, 0, 3, 1), (3, 0, None, 2)])

@@ -491,6 +491,13 @@ class Watches(unittest.TestCase):
             watch.step({"low": low}, {})
         self.assertEqual(watch.kept(), 3 + 2)
 
+    def test_equal_timed_parts_with_a_let_are_kept_once(self):
+        part = ("ever", 3, ("name", "u"))
+        watch = Watch(("and", ("and", part, ("name", "v")), ("not", part)), [("u", LOW), ("v", ("before", 2, part))])
+        for low in bits("x.x.."):
+            watch.step({"low": low}, {})
+        self.assertEqual(watch.kept(), 3 + 2)
+
     def test_different_timed_parts_are_kept_each(self):
         parts = [("ever", 3, LOW), ("ever", 2, LOW), ("always", 3, LOW), ("before", 3, LOW), ("ever", 3, GONE),
                  ("ever", 3, ("equal", ("fact", "low"), ("money", ONE))), ("ever", 3, ("ever", 3, LOW))]
