@@ -267,6 +267,12 @@ class Watch:
 
     def step(self, facts, rates):
         """Gives the watch the next day, and returns the value on it."""
+        result, truths = self.look(facts, rates)
+        self.accept(truths)
+        return result
+
+    def look(self, facts, rates):
+        """Returns the value on the next day, and the truths to keep from then on; nothing has changed yet."""
         reckoner = Reckoner(self.plan, KnownToday(facts, rates))
         truths = {}
         for number, past in self.truths.items():
@@ -274,10 +280,12 @@ class Watch:
             latest = [*past, reckoner.reckon(truth, self.days)]
             truths[number] = latest[-days:]
             reckoner.results[(number, self.days)] = _timed_value(word, days, past, truths[number])
-        result = reckoner.reckon(self.plan.root, self.days)
+        return reckoner.reckon(self.plan.root, self.days), truths
+
+    def accept(self, truths):
+        """Moves on by the day that look has looked at."""
         self.truths = truths
         self.days = self.days + 1
-        return result
 
     def kept(self):
         """Returns the number of truths that the watch keeps."""
