@@ -157,6 +157,9 @@ class Checker:
                 bound.append(part.name)
             if isinstance(part, ast.ExceptHandler) and part.name:
                 bound.append(part.name)
+        handled = [part.name for part in ast.walk(node) if isinstance(part, ast.ExceptHandler) and part.name]
+        for name in {name for name in handled if bound.count(name) > 1}:
+            self.report(path, node.lineno, "L19", f"{name} is more than one handler's error")
         for name in set(bound):
             if name in fixed:
                 self.report(path, node.lineno, "L15", f"{name} is a class or an import of the file")

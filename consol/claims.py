@@ -50,6 +50,11 @@ def paid(claims, totals):
     return [times(amount, shares[debtor][rank]) for debtor, rank, creditor, amount in claims.debts]
 
 
+def are_paid(claims, totals, amounts):
+    """Tells whether the totals pay the debts these amounts."""
+    return amounts == paid(claims, totals)
+
+
 def has(claims, totals, issuer):
     """Returns the cash of an issuer and all that debts to it are paid."""
     return holdings(claims, totals)[issuer]

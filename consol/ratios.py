@@ -8,6 +8,7 @@ ZERO = (0, 1)
 DIGITS = "0123456789"
 MOST_DIGITS_READ = 12
 MOST_DIGITS_SHOWN = 1000
+DIGITS_OF_PIECE = 60
 
 
 def is_fraction(value):
@@ -126,6 +127,24 @@ def show_fraction(a):
     if _is_long(p) or _is_long(q):
         raise TooLarge("digits")
     return str(p) if q == 1 else f"{p}/{q}"
+
+
+def full_text(a):
+    """Returns the text of a fraction, however many digits it has."""
+    p, q = a
+    return _digits(p) if q == 1 else f"{_digits(p)}/{_digits(q)}"
+
+
+def _digits(number):
+    """Returns an integer as it is written; Python itself refuses very long ones."""
+    limit = 10 ** 60
+    left = abs(number)
+    pieces = []
+    while left >= limit:
+        left, piece = divmod(left, limit)
+        pieces.append(str(piece).zfill(DIGITS_OF_PIECE))
+    pieces.append(str(left) if number >= 0 else f"-{left}")
+    return "".join(pieces[::-1])
 
 
 def _is_long(number):

@@ -11,27 +11,44 @@ MINUS_ONE = (-1, 1)
 
 def form_of(expression, lets, day, facts, rates, ring):
     """Returns the form of an expression, a pair (factors, rest), or None if it is not straight."""
-    return _form(expression, lets, ring, KnownBefore(facts, rates, day, ring))
+    return _form(Plan(expression, lets), ring, KnownBefore(facts, rates, day, ring))
 
 
 def ring_system(bonds, ring, day, facts, rates):
     """Returns the lists of the factors of the bonds of a ring, and the list of their rests."""
-    return _system(bonds, ring, _known_before(bonds, day, facts, rates))
+    return _system(_plans(bonds), ring, _known_before(bonds, day, facts, rates))
 
 
 def ring_rates(bonds, ring, day, facts, rates):
     """Returns the rates of the bonds of a ring."""
-    return _solution(bonds, ring, _known_before(bonds, day, facts, rates))
+    return _solution(_plans(bonds), ring, _known_before(bonds, day, facts, rates))
 
 
 def rates_of_day(bonds, day, facts, rates):
     """Returns a dict from the names of all bonds to their rates on a day."""
-    known = _known_before(bonds, day, facts, rates)
-    for names in groups(bonds):
-        # The form of a bond that is no ring has no factors, and its value as the rest.
-        for name, rate in zip(names, _solution(bonds, names, known)):
-            known.today[name] = rate
-    return known.today
+    return RateFinder(bonds).rates_of(day, facts, rates)
+
+
+class RateFinder:
+    """Finds the rates of some bonds on one day after another."""
+
+    def __init__(self, bonds):
+        self.sought = [bond.name for bond in bonds]
+        self.groups = groups(bonds)
+        self.plans = _plans(bonds)
+
+    def rates_of(self, day, facts, rates):
+        """Returns a dict from the names of the bonds to their rates on a day."""
+        known = KnownBefore(facts, rates, day, self.sought)
+        for names in self.groups:
+            # The form of a bond that is no ring has no factors, and its value as the rest.
+            for name, rate in zip(names, _solution(self.plans, names, known)):
+                known.today[name] = rate
+        return known.today
+
+    def group_of(self, name):
+        """Returns the group to which a bond belongs."""
+        return [names for names in self.groups if name in names][0]
 
 
 class KnownBefore(Known):
@@ -98,8 +115,11 @@ def _known_before(bonds, day, facts, rates):
     return KnownBefore(facts, rates, day, [bond.name for bond in bonds])
 
 
-def _form(expression, lets, ring, known):
-    plan = Plan(expression, lets)
+def _plans(bonds):
+    return {bond.name: Plan(bond.coupon, bond.lets) for bond in bonds}
+
+
+def _form(plan, ring, known):
     return FormReckoner(plan, known, ring).reckon(plan.root, known.day)
 
 
@@ -115,12 +135,11 @@ def _multiple(form, number):
     return factors, times(form[1], number)
 
 
-def _system(bonds, ring, known):
-    table = {bond.name: bond for bond in bonds}
+def _system(plans, ring, known):
     rows = []
     rests = []
     for name in ring:
-        form = _form(table[name].coupon, table[name].lets, ring, known)
+        form = _form(plans[name], ring, known)
         if form is None:
             raise NotStraight(name)
         rows.append([form[0].get(other, ZERO) for other in ring])
@@ -128,9 +147,9 @@ def _system(bonds, ring, known):
     return rows, rests
 
 
-def _solution(bonds, ring, known):
+def _solution(plans, ring, known):
     """Returns the rates of a ring, the only solution of its system."""
-    factors, rests = _system(bonds, ring, known)
+    factors, rests = _system(plans, ring, known)
     rows = []
     for at, row in enumerate(factors):
         rows.append([minus(ONE if at == k else ZERO, factor) for k, factor in enumerate(row)])

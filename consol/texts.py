@@ -100,6 +100,20 @@ def same_bond(bond, other):
     return True
 
 
+def copied_bond(bond):
+    """Returns a bond of the same attributes, with lists of its own."""
+    return with_terms_of(bond, bond)
+
+
+def with_terms_of(bond, other):
+    """Returns a bond with the promises, the cross amount and the calls of another one."""
+    return Bond(
+        bond.name, bond.issuer, units=bond.units, face=bond.face, first_day=bond.first_day, last_day=bond.last_day,
+        months=bond.months, count=bond.count, adjust=bond.adjust, record=bond.record, rank=bond.rank, lets=bond.lets,
+        coupon=bond.coupon, promises=other.promises, cross=other.cross, calls=other.calls,
+    )
+
+
 def _attributes(bond):
     head = [bond.name, bond.issuer, bond.units, bond.face, bond.first_day, bond.last_day, bond.months, bond.count]
     return head + [bond.adjust, bond.record, bond.rank, bond.lets, bond.coupon, bond.promises, bond.cross, bond.calls]

@@ -6,8 +6,9 @@ import random
 import unittest
 
 from consol.cross import cause_row, defaults, size
-from consol.errors import ConsolError, UnknownBond
+from consol.errors import UnknownBond
 from consol.texts import Bond, read_bond
+from helping import error_of
 
 
 def a_bond(name, face=100, cross=None, issuer="state", units=10):
@@ -22,14 +23,6 @@ def a_bond(name, face=100, cross=None, issuer="state", units=10):
 def bonds_of(words):
     """Bonds of the size 10 by words: "a" has no cross, "b15" is bound by more than 15."""
     return [a_bond(word[0], 1, int(word[1:]) if word[1:] else None) for word in words.split()]
-
-
-def error_of(call, *given):
-    try:
-        call(*given)
-    except ConsolError as error:
-        return type(error), vars(error)
-    return None
 
 
 def told_defaults(bonds, own, exempt):

@@ -8,8 +8,9 @@ from fractions import Fraction
 from consol.accrual import interests, part
 from consol.dates import adjust, day_of, is_business, schedule
 from consol.due import accrued, falls_due, record_day, start_days
-from consol.errors import ConsolError, MissingRate, NoCall
+from consol.errors import MissingRate, NoCall
 from consol.texts import Bond, read_bond
+from helping import error_of
 
 ZERO = (0, 1)
 
@@ -24,14 +25,6 @@ def a_bond(first_day=0, last_day=365, months=6, *, count="fixed", adjust="none",
 
 def one(number):
     return Fraction(number).as_integer_ratio()
-
-
-def error_of(call, *given, **more):
-    try:
-        call(*given, **more)
-    except ConsolError as error:
-        return type(error), vars(error)
-    return None
 
 
 class Examples(unittest.TestCase):

@@ -6,20 +6,13 @@ import unittest
 from fractions import Fraction
 
 from consol.errors import (
-    ConsolError, DuplicateAccount, InvalidDay, InvalidShare, InvalidUnits, NotAHolder, NotANominee, NotNoted, NoVote,
+    DuplicateAccount, InvalidDay, InvalidShare, InvalidUnits, NotAHolder, NotANominee, NotNoted, NoVote,
     TooDeep, TooFew, UnknownAccount,
 )
 from consol.holders import Holders
+from helping import error_of
 
 ONE = (1, 1)
-
-
-def error_of(call, *given, **more):
-    try:
-        call(*given, **more)
-    except ConsolError as error:
-        return type(error), vars(error)
-    return None
 
 
 def some_holders():
@@ -394,6 +387,17 @@ class Votes(unittest.TestCase):
         alone.note(0)
         self.assertEqual(alone.tally(0, [("ann", True)]), (0, 0, 0))
         self.assertFalse(alone.is_taken(0, [("ann", True)], ONE))
+
+    def test_one_unit_suffices(self):
+        holders = Holders("state", 3)
+        for name in ("ann", "bob"):
+            holders.open_account(name)
+        holders.move("state", "ann", 1)
+        holders.move("state", "bob", 2)
+        holders.note(0)
+        self.assertTrue(holders.is_taken(0, [("ann", True), ("bob", False)], (1, 3)))
+        self.assertFalse(holders.is_taken(0, [("ann", True), ("bob", False)], (101, 300)))
+        self.assertFalse(holders.is_taken(0, [("bob", False)], (1, 3)))
 
     def test_lesser_shares_and_further_yeses(self):
         holders = voters()

@@ -4,10 +4,11 @@ import copy
 import random
 import unittest
 
-from consol.errors import ConsolError, MissingFact, MissingRate, UnknownLet
+from consol.errors import MissingFact, MissingRate, UnknownLet
 from consol.evaluate import value
 from consol.promises import Follower, age, is_kept
 from consol.texts import Bond, read_bond
+from helping import error_of
 
 ZERO = (0, 1)
 ONE = (1, 1)
@@ -35,14 +36,6 @@ def followed(bond, text):
     for bit in bits(text):
         follower.step({"on": bit}, {})
     return follower
-
-
-def error_of(call, *given):
-    try:
-        call(*given)
-    except ConsolError as error:
-        return type(error), vars(error)
-    return None
 
 
 class Examples(unittest.TestCase):

@@ -7,7 +7,7 @@ from math import floor
 
 from consol.errors import DivisionByZero, InvalidNumber, TooLarge
 from consol.ratios import (
-    fraction, greater, is_fraction, minus, opposite, order, over, plus, products, read_fraction,
+    fraction, full_text, greater, is_fraction, minus, opposite, order, over, plus, products, read_fraction,
     show_fraction, sign, smaller, times, total, whole_part,
 )
 
@@ -233,6 +233,17 @@ class TextTest(unittest.TestCase):
             with self.assertRaises(TooLarge) as caught:
                 show_fraction(number)
             self.assertEqual(caught.exception.limit, "digits")
+
+    def test_texts_of_any_length(self):
+        for number in samples():
+            self.assertEqual(full_text(pair(number)), str(number))
+        for digits in (59, 60, 61, 120, 121, 1000, 5000):
+            nines = "9" * digits
+            number = 10 ** digits - 1
+            self.assertEqual(full_text((number, 1)), nines)
+            self.assertEqual(full_text((-number, 1)), "-" + nines)
+            self.assertEqual(full_text((-1, number + 1)), "-1/1" + "0" * digits)
+            self.assertEqual(full_text((number + 6, 7)), "1" + "0" * (digits - 1) + "5/7")
 
     def test_examples(self):
         self.assertEqual((show_fraction((-3, 4)), read_fraction("5/2")), ("-3/4", (5, 2)))
