@@ -20,7 +20,9 @@ class Course:
         self.days = 0
         # The facts stay as they are on all of these days.
         self.facts = {name: row + [state.known[name]] * most for name, row in state.facts.items()}
-        self.finder = RateFinder([kept.bond for kept in state.all_bonds()])
+        self.finder = state.finder
+        if self.finder is None:
+            self.finder = RateFinder([kept.bond for kept in state.all_bonds()])
         self.debts = []
         self.payments = []
         self.fallen = []
@@ -35,6 +37,8 @@ def run_days(state, most):
     while course.days < course.most and _run_day(state, course):
         course.days = course.days + 1
     state.facts = {name: row[:state.day] for name, row in course.facts.items()}
+    # A day that could not be run may have other facts, or even other bonds, when it is tried again.
+    state.finder = course.finder if course.days == course.most else None
     if course.missing != "" and course.days == 0:
         return f"refused bond {course.missing}"
     return _answer(course)

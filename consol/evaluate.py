@@ -185,13 +185,20 @@ class Reckoner:
 
     def _begin_timed(self, row, number, day):
         if row[0] != "before":
-            first = max(0, day - row[1] + 1)
-            self.due.append((row[0], number, day, first))
-            self._begin_kept(row[2], first)
+            self._look_on(row, number, day, max(0, day - row[1] + 1))
         elif day < row[1]:
             self.found.append(False)
         else:
             self._begin_kept(row[2], day - row[1])
+
+    def _look_on(self, row, number, day, look):
+        """Goes on with a timed part from a day on."""
+        # Days on which it is known to be uncertain are passed by at once, since there may be hundreds of them.
+        uncertain = row[0] == "always"
+        while look < day and self.results.get((row[2], look)) == uncertain:
+            look = look + 1
+        self.due.append((row[0], number, day, look))
+        self._begin_kept(row[2], look)
 
     def _begin_kept(self, number, day):
         """Begins with a part that may be asked for again on this day."""
@@ -213,8 +220,7 @@ class Reckoner:
             if latest == (row[0] == "ever") or look == day:
                 self.found.append(latest)
             else:
-                self.due.append((row[0], number, day, look + 1))
-                self._begin_kept(row[2], look + 1)
+                self._look_on(row, number, day, look + 1)
         else:
             self.found.append(self.joined(row[0], self.found.pop(), latest))
 

@@ -54,6 +54,8 @@ class Keeping:
         self.issuers = []
         self.books = Books()
         self.records = []
+        # What is kept for finding the rates of the next day, if there is anything.
+        self.finder = None
         self.books.open_account(WORLD)
 
     def all_bonds(self):

@@ -11,7 +11,7 @@ MINUS_ONE = (-1, 1)
 
 def form_of(expression, lets, day, facts, rates, ring):
     """Returns the form of an expression, a pair (factors, rest), or None if it is not straight."""
-    return _form(Plan(expression, lets), ring, KnownBefore(facts, rates, day, ring))
+    return _form(Plan(expression, lets), {}, ring, KnownBefore(facts, rates, day, ring))
 
 
 def ring_system(bonds, ring, day, facts, rates):
@@ -30,7 +30,10 @@ def rates_of_day(bonds, day, facts, rates):
 
 
 class RateFinder:
-    """Finds the rates of some bonds on one day after another."""
+    """Finds the rates of some bonds on one day after another.
+
+    What it has found of earlier days is kept, so their facts and rates must stay.
+    """
 
     def __init__(self, bonds):
         self.sought = [bond.name for bond in bonds]
@@ -76,10 +79,12 @@ class KnownBefore(Known):
 class FormReckoner(Reckoner):
     """Finds forms in place of values, and None for what is not straight."""
 
-    def __init__(self, plan, known, ring):
+    def __init__(self, plan, known, ring, truths):
         super().__init__(plan, known)
         self.ring = ring
-        self.truths = Reckoner(plan, known)
+        reckoner = Reckoner(plan, known)
+        reckoner.results = truths
+        self.truths = reckoner
 
     def decide(self, number, day):
         """Finds the first part of an `if`, a value, or None if it needs a rate that is looked for."""
@@ -116,11 +121,12 @@ def _known_before(bonds, day, facts, rates):
 
 
 def _plans(bonds):
-    return {bond.name: Plan(bond.coupon, bond.lets) for bond in bonds}
+    """Returns, for each name of a bond, the plan of its coupon and the values that are kept of its parts."""
+    return {bond.name: (Plan(bond.coupon, bond.lets), {}) for bond in bonds}
 
 
-def _form(plan, ring, known):
-    return FormReckoner(plan, known, ring).reckon(plan.root, known.day)
+def _form(plan, truths, ring, known):
+    return FormReckoner(plan, known, ring, truths).reckon(plan.root, known.day)
 
 
 def _sum_of_forms(first, second):
@@ -139,7 +145,8 @@ def _system(plans, ring, known):
     rows = []
     rests = []
     for name in ring:
-        form = _form(plans[name], ring, known)
+        plan, truths = plans[name]
+        form = _form(plan, truths, ring, known)
         if form is None:
             raise NotStraight(name)
         rows.append([form[0].get(other, ZERO) for other in ring])

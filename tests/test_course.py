@@ -122,6 +122,19 @@ class Stops(unittest.TestCase):
         self.assertEqual((office.current_day(), office.stage("x")), (4, "good"))
         self.assertEqual(office.obey("days 9"), "days 0 stopped ring b")
 
+    def test_what_was_found_of_a_day_that_was_not_run_is_forgotten(self):
+        coupon = "if ever 3 (fact on = 1) then rate b else 1 percent"
+        office = office_of("fact on count", "know on 0", *issue("b", coupon=coupon))
+        lines = ["days 2", "know on 1", "days 4", "know on 0", "days 4", "know on 1", "days 1", "know on 2", "days 9"]
+        self.assertEqual([office.obey(line) for line in lines], [
+            "days 2", "known", "days 0 stopped ring b", "known", "days 4", "known", "days 0 stopped ring b", "known",
+            "days 9",
+        ])
+        # On the first day, other bonds may come to be there.
+        office = office_of("fact on count", "know on 1", *issue("b", coupon=coupon), "days 1", *issue("c"), "know on 0",
+                           "days 2")
+        self.assertEqual((office.rates("b"), office.rates("c")), ([(1, 100)] * 2, [(1, 10)] * 2))
+
     def test_on_the_first_day(self):
         office = office_of(*self.ring(), "know on 1")
         before = picture(office)
